@@ -1,9 +1,19 @@
 """The desk: calls on one order, handed in one behind another, and their answers."""
 
 from lookuporder.characters import is_text
+from lookuporder.comparing import begins_with
+from lookuporder.comparing import compare_texts
+from lookuporder.comparing import find_text
+from lookuporder.comparing import text_hash
 from lookuporder.following import follow_rules
 from lookuporder.levels import is_way
 from lookuporder.levels import text_key
+from lookuporder.listing import is_list
+from lookuporder.listing import label_of
+from lookuporder.listing import rank_of
+from lookuporder.listing import sorted_numbers
+from lookuporder.listing import texts_of
+from lookuporder.listing import wrong_number
 from lookuporder.order import NO_PLACE
 from lookuporder.order import Order
 from lookuporder.reading import LONGEST_STRING
@@ -24,6 +34,15 @@ class Desk:
 
 def with_length(row):
     return [len(row)] + list(row)
+
+
+# Of several refusals that of a wrong form is told first; DONE if there's none of these.
+def refusal_of(is_formed, texts):
+    if not is_formed:
+        return WRONG_FORM
+    if not all([is_text(text) for text in texts]):
+        return NO_CHARACTER
+    return DONE
 
 
 def call_new(desk, numbers, rows):
@@ -66,8 +85,9 @@ def call_where(desk, numbers, rows):
 
 
 def call_items(desk, numbers, rows):
-    if not is_text(rows[0]):
-        return [NO_CHARACTER]
+    refused = refusal_of(True, rows)
+    if refused != DONE:
+        return [refused]
     told = []
     for item in text_items(Scale(desk.order), rows[0]):
         told.extend(item.weights)
@@ -76,11 +96,76 @@ def call_items(desk, numbers, rows):
 
 
 def call_key(desk, numbers, rows):
-    if not is_way(numbers[0]):
-        return [WRONG_FORM]
-    if not is_text(rows[0]):
-        return [NO_CHARACTER]
+    refused = refusal_of(is_way(numbers[0]), rows)
+    if refused != DONE:
+        return [refused]
     return [DONE] + with_length(text_key(Scale(desk.order), numbers[0], rows[0]))
+
+
+def call_compare(desk, numbers, rows):
+    refused = refusal_of(is_way(numbers[0]), rows)
+    if refused != DONE:
+        return [refused]
+    return [DONE, compare_texts(Scale(desk.order), numbers[0], rows[0], rows[1])]
+
+
+def call_hash(desk, numbers, rows):
+    refused = refusal_of(is_way(numbers[0]), rows)
+    if refused != DONE:
+        return [refused]
+    return [DONE, text_hash(Scale(desk.order), numbers[0], rows[0])]
+
+
+def call_begins(desk, numbers, rows):
+    refused = refusal_of(is_way(numbers[0]), rows)
+    if refused != DONE:
+        return [refused]
+    return [DONE, 1 if begins_with(Scale(desk.order), numbers[0], rows[0], rows[1]) else 0]
+
+
+def call_find(desk, numbers, rows):
+    refused = refusal_of(is_way(numbers[0]), rows)
+    if refused != DONE:
+        return [refused]
+    borders = find_text(Scale(desk.order), numbers[0], numbers[1], rows[0], rows[1])
+    if borders is None:
+        return [NONE_THERE]
+    return [DONE] + list(borders)
+
+
+def call_sort(desk, numbers, rows):
+    texts = texts_of(rows[0])
+    refused = refusal_of(is_way(numbers[0]) and is_list(rows[0]), texts)
+    if refused != DONE:
+        return [refused]
+    return [DONE] + with_length(sorted_numbers(Scale(desk.order), numbers[0], texts))
+
+
+def call_rank(desk, numbers, rows):
+    texts = texts_of(rows[0])
+    upto = numbers[1]
+    refused = refusal_of(is_way(numbers[0]) and upto <= 1 and is_list(rows[0]), texts + [rows[1]])
+    if refused != DONE:
+        return [refused]
+    return [DONE, rank_of(Scale(desk.order), numbers[0], texts, rows[1], upto == 1)]
+
+
+def call_label(desk, numbers, rows):
+    texts = texts_of(rows[0])
+    refused = refusal_of(is_way(numbers[0]) and is_list(rows[0]), texts + [rows[1]])
+    if refused != DONE:
+        return [refused]
+    label = label_of(Scale(desk.order), numbers[0], texts, rows[1])
+    return [NONE_THERE] if label is None else [DONE, label]
+
+
+def call_wrong(desk, numbers, rows):
+    texts = texts_of(rows[0])
+    refused = refusal_of(is_way(numbers[0]) and is_list(rows[0]), texts)
+    if refused != DONE:
+        return [refused]
+    wrong = wrong_number(Scale(desk.order), numbers[0], texts)
+    return [NONE_THERE] if wrong is None else [DONE, wrong]
 
 
 # Of each call: how many whole numbers and how many rows it has, and what answers it.
@@ -93,6 +178,14 @@ CALLS = {
     6: (0, 1, call_where),
     7: (0, 1, call_items),
     8: (1, 1, call_key),
+    9: (1, 2, call_compare),
+    10: (1, 1, call_hash),
+    11: (1, 2, call_begins),
+    12: (2, 2, call_find),
+    13: (1, 1, call_sort),
+    14: (2, 2, call_rank),
+    15: (1, 2, call_label),
+    16: (1, 1, call_wrong),
 }
 
 

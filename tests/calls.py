@@ -43,6 +43,43 @@ def key(way, value):
     return [8, way] + with_length(value)
 
 
+def compare(way, first, second):
+    return [9, way] + with_length(first) + with_length(second)
+
+
+def hashed(way, value):
+    return [10, way] + with_length(value)
+
+
+def begins(way, first, second):
+    return [11, way] + with_length(first) + with_length(second)
+
+
+def find(way, n, first, second):
+    return [12, way, n] + with_length(first) + with_length(second)
+
+
+def listed(texts):
+    """The row that a list of texts is handed in as."""
+    return [number for text in texts for number in with_length(text)]
+
+
+def sort(way, texts):
+    return [13, way] + with_length(listed(texts))
+
+
+def rank(way, upto, texts, text):
+    return [14, way, upto] + with_length(listed(texts)) + with_length(text)
+
+
+def label(way, texts, text):
+    return [15, way] + with_length(listed(texts)) + with_length(text)
+
+
+def wrong(way, texts):
+    return [16, way] + with_length(listed(texts))
+
+
 def split(answered):
     """The answers to each call by itself."""
     parts = []
@@ -95,3 +132,16 @@ def item_row(text, *told):
 def key_row(way, text, *told):
     """The key of the text by the order that these rules make."""
     return last(*[rules(value) for value in told], key(way, text))[2:]
+
+
+def told_of(call, *told):
+    """What is answered to the call behind 0, by the order that these rules make."""
+    answer = last(*[rules(value) for value in told], call)
+    if answer[0] != 0:
+        raise ValueError(f"refused: {answer}")
+    return answer[1:]
+
+
+def in_order(way, texts, *told):
+    """The texts, sorted by the order that these rules make."""
+    return [texts[number] for number in told_of(sort(way, texts), *told)[1:]]

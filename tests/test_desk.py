@@ -3,11 +3,19 @@
 import unittest
 
 from lookuporder.desk import answers
-from tests.calls import ask, count, entry, items, key, last, new, rules, where, write
+from tests.calls import (
+    ask, begins, compare, count, entry, find, hashed, items, key, label, last, new, rank, rules, sort, where, write,
+    wrong)
 
 MIXED = [
     rules("< a << ~ b / xy"), write(), count(), entry(1), where("b"), items("ab"), key(31, "a1"), rules("< b <"),
     rules("& q"), entry(2), where("q"), where(""), items([55296]), key(32, "a"), new(), count()]
+TEXTS = ["b1", "a10", "", "a9"]
+COMPARING = [
+    rules("< ~ a << b < 0 < 1"), compare(31, "a1", "b1"), hashed(31, "a1b"), begins(31, "a1b", "a"),
+    find(31, 1, "ba1b", "a1"), sort(31, TEXTS), rank(31, 1, TEXTS, "b"), label(31, TEXTS, "b"), wrong(31, TEXTS),
+    compare(32, "a", "b"), find(0, 5, "a", "a"), sort(0, [[55296]]), rank(0, 2, TEXTS, "a"), label(0, [], "a"),
+    wrong(0, []), write()]
 
 
 def joined(calls):
@@ -38,26 +46,66 @@ class FormTest(unittest.TestCase):
         self.assertEqual(answers([2, 2, 38, 97]), [2, -4, 1])
         self.assertEqual(answers([2, 4, 60, 97, 60, 97]), [2, -6, 3])
 
+    def test_comparing_calls_as_they_are_handed_in_and_given_back(self):
+        handed = [9, 3, 1, 97, 2, 97, 98] + [9, 0, 1, 98, 0] + [10, 0, 0] + [11, 0, 2, 97, 98, 1, 97]
+        handed += [12, 0, 1, 3, 97, 98, 97, 1, 97] + [13, 0, 5, 1, 98, 1, 97, 0] + [14, 0, 1, 4, 1, 98, 1, 97, 1, 97]
+        handed += [15, 0, 4, 1, 98, 1, 97, 1, 98] + [16, 0, 4, 1, 98, 1, 97] + [4]
+        self.assertEqual(answers(handed), [
+            2, 0, -1,
+            2, 0, 1,
+            2, 0, 14695981039346656037,
+            2, 0, 1,
+            3, 0, 2, 3,
+            5, 0, 3, 2, 1, 0,
+            2, 0, 1,
+            2, 0, 0,
+            2, 0, 1,
+            2, 0, 0])
+
+    def test_comparing_calls_refused(self):
+        self.assertEqual(answers([9, 32, 0, 0]), [1, -1])
+        self.assertEqual(answers([10, 0, 1, 55296]), [1, -3])
+        self.assertEqual(answers([11, 0, 0, 1, 55296]), [1, -3])
+        self.assertEqual(answers([12, 0, 1, 0, 0]), [1, -2])
+        self.assertEqual(answers([13, 0, 1, 1]), [1, -1])
+        self.assertEqual(answers([14, 0, 2, 0, 0]), [1, -1])
+        self.assertEqual(answers([15, 0, 0, 0]), [1, -2])
+        self.assertEqual(answers([16, 0, 0]), [1, -2])
+
     def test_any_call_first(self):
-        self.assertEqual(
-            [ask(call)[0] for call in (new(), rules(""), write(), count(), entry(0), where("a"), items(""), key(0, ""))],
-            [[0], [0], [0, 0], [0, 0], [-2], [-2], [0, 0], [0, 0]])
+        plain = (new(), rules(""), write(), count(), entry(0), where("a"), items(""), key(0, ""))
+        self.assertEqual([ask(call)[0] for call in plain], [[0], [0], [0, 0], [0, 0], [-2], [-2], [0, 0], [0, 0]])
+        comparing = (
+            compare(0, "", ""), hashed(0, ""), begins(0, "", ""), find(0, 0, "", ""), sort(0, []), rank(0, 0, [], ""),
+            label(0, [], ""), wrong(0, []))
+        self.assertEqual([ask(call)[0] for call in comparing], [
+            [0, 0], [0, 14695981039346656037], [0, 1], [0, 0, 0], [0, 0], [0, 0], [-2], [-2]])
 
     def test_16_calls(self):
         self.assertEqual(len(MIXED), 16)
         self.assertEqual([part[0] for part in ask(*MIXED)], [0, 0, 0, 0, 0, 0, 0, -6, -4, -2, -2, -1, -3, -1, 0, 0])
+        self.assertEqual(len(COMPARING), 16)
+        self.assertEqual([part[0] for part in ask(*COMPARING)], [0] * 9 + [-1, -2, -3, -1, -2, -2, 0])
         self.assertEqual(ask(*[count()] * 16), [[0, 0]] * 16)
 
     def test_what_is_handed_in_is_not_changed(self):
-        handed = joined(MIXED)
-        before = list(handed)
-        answers(handed)
-        self.assertEqual(handed, before)
+        for calls in (MIXED, COMPARING):
+            handed = joined(calls)
+            before = list(handed)
+            answers(handed)
+            self.assertEqual(handed, before)
 
     def test_nothing_is_kept(self):
+        for calls in (MIXED, COMPARING):
+            handed = joined(calls)
+            first = answers(handed)
+            self.assertEqual(answers(handed), first)
+            self.assertEqual(answers(list(handed)), first)
+
+    def test_nothing_is_kept_of_other_lists(self):
         handed = joined(MIXED)
         first = answers(handed)
-        self.assertEqual(answers(handed), first)
+        answers(joined(COMPARING))
         answers(joined([rules("< z")]))
         self.assertEqual(answers(joined([count(), write()])), [2, 0, 0, 2, 0, 0])
         first.append(5)
@@ -67,9 +115,10 @@ class FormTest(unittest.TestCase):
         self.assertEqual(ask(rules("< a < b <"), count(), rules("< a"), count()), [[-1, 9], [0, 0], [0], [0, 1]])
 
     def test_whole_numbers_and_a_list_are_given_back(self):
-        given = answers(joined(MIXED))
-        self.assertIs(type(given), list)
-        self.assertEqual({type(number) for number in given}, {int})
+        for calls in (MIXED, COMPARING):
+            given = answers(joined(calls))
+            self.assertIs(type(given), list)
+            self.assertEqual({type(number) for number in given}, {int})
 
     def test_the_longest_list_of_calls(self):
         handed = joined([where([97] * 1000)] * 16)
@@ -115,8 +164,9 @@ class PlainCallTest(unittest.TestCase):
         self.assertEqual(last(rules("< a / b"), where("b")), [-2])
 
     def test_the_order_lasts_over_looks_at_it(self):
-        looks = [write(), entry(0), where("a"), items("a"), key(31, "a")]
-        self.assertEqual(ask(rules("< a"), *looks, *looks)[1:6], ask(rules("< a"), *looks, *looks)[6:])
+        for looks in ([write(), entry(0), where("a"), items("a"), key(31, "a")], COMPARING[1:8], COMPARING[8:15]):
+            parts = ask(rules("< ~ a << b < 0"), *looks, *looks)[1:]
+            self.assertEqual(parts[:len(looks)], parts[len(looks):])
 
 
 if __name__ == "__main__":

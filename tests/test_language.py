@@ -10,7 +10,7 @@ PACKAGE = pathlib.Path(__file__).resolve().parent.parent / "lookuporder"
 NODES = (
     "Module Expr Constant ImportFrom alias FunctionDef arguments arg ClassDef Return Assign AugAssign If While For "
     "Break Continue Pass Call keyword Name Load Store Attribute Subscript Slice Tuple List Dict ListComp comprehension "
-    "BinOp Add Sub Mult FloorDiv Mod BitAnd BitOr BitXor LShift RShift UnaryOp Not USub BoolOp And Or IfExp "
+    "Lambda BinOp Add Sub Mult FloorDiv Mod BitAnd BitOr BitXor LShift RShift UnaryOp Not USub BoolOp And Or IfExp "
     "Compare Eq NotEq Lt LtE Gt GtE In NotIn Is IsNot").split()
 BUILTINS = (
     "len range enumerate zip min max sum abs sorted reversed int str bool list tuple dict set isinstance ord repr "
